@@ -1,0 +1,45 @@
+"""The calls: each answers one list of whole numbers."""
+
+from woodswell.grid import first_overlap
+from woodswell.worktext import read_work
+
+MOST_BYTES = 65536
+MOST_TOLD = 32
+MOST_SWELL = 100
+MOST_HELD = 7
+
+
+class Case:
+    def __init__(self, puts, refusal):
+        self.puts = puts
+        self.refusal = refusal
+
+
+def is_too_long(text, swells, held):
+    return len(text) > MOST_BYTES or len(swells) > MOST_TOLD or len(held) > MOST_TOLD
+
+
+def fits_puts(puts, told, most):
+    return len(told) == len(puts) and all([number <= most for number in told])
+
+
+# own_right: whether the call's own numbers are within their bounds; that is asked only behind -2, -6 and -9.
+def read_case(text, swells, held, own_right):
+    if is_too_long(text, swells, held):
+        return Case([], [-2])
+    made = read_work(text)
+    if len(made.fault) > 0:
+        return Case([], [-6] + made.fault)
+    pair = first_overlap(made.puts)
+    if len(pair) > 0:
+        return Case([], [-9] + pair)
+    if not own_right or not fits_puts(made.puts, swells, MOST_SWELL) or not fits_puts(made.puts, held, MOST_HELD):
+        return Case([], [-1])
+    return Case(made.puts, [])
+
+
+def judge(text, swells, held):
+    case = read_case(text, swells, held, True)
+    if len(case.refusal) > 0:
+        return case.refusal
+    return [0]
