@@ -122,7 +122,8 @@ class Form(unittest.TestCase):
                     self.assertIn(node.func.attr, METHODS, (name, node.lineno))
                 if isinstance(node, ast.Call):
                     keywords = {word.arg for word in node.keywords}
-                    self.assertLessEqual(keywords, {"key", "reverse", "default", "start", "strict"}, (name, node.lineno))
+                    allowed = {"key", "reverse", "default", "start", "strict"}
+                    self.assertLessEqual(keywords, allowed, (name, node.lineno))
 
 
 if __name__ == "__main__":

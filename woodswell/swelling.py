@@ -1,5 +1,6 @@
 """The calls: each answers one list of whole numbers."""
 
+from woodswell.damp import plane_at
 from woodswell.grid import first_overlap
 from woodswell.worktext import read_work
 
@@ -7,6 +8,9 @@ MOST_BYTES = 65536
 MOST_TOLD = 32
 MOST_SWELL = 100
 MOST_HELD = 7
+MOST_AXIS = 2
+MOST_PLACE = 64
+MOST_DAMP = 200
 
 
 class Case:
@@ -21,6 +25,10 @@ def is_too_long(text, swells, held):
 
 def fits_puts(puts, told, most):
     return len(told) == len(puts) and all([number <= most for number in told])
+
+
+def is_dampness(m):
+    return -MOST_DAMP <= m <= MOST_DAMP
 
 
 # own_right: whether the call's own numbers are within their bounds; that is asked only behind -2, -6 and -9.
@@ -43,3 +51,13 @@ def judge(text, swells, held):
     if len(case.refusal) > 0:
         return case.refusal
     return [0]
+
+
+def plane(i, axis, t, m, text, swells, held):
+    own_right = axis <= MOST_AXIS and t <= MOST_PLACE and is_dampness(m)
+    case = read_case(text, swells, held, own_right)
+    if len(case.refusal) > 0:
+        return case.refusal
+    if i >= len(case.puts):
+        return [-4]
+    return [0, plane_at(case.puts[i], swells[i], held[i], axis, t, m)]

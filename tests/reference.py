@@ -1,0 +1,125 @@
+"""The document once more, cell by cell and without care for speed, to hold the program against."""
+
+import itertools
+import re
+from fractions import Fraction
+
+NUMBER = rb"(0|[1-9][0-9]*)"
+NAME = rb"([a-z0-9]{1,12})"
+FORMS = {
+    "part": re.compile(rb"part " + NAME + rb" " + rb" ".join([NUMBER] * 3) + rb" ([xyz])\n"),
+    "cut": re.compile(rb"cut " + rb" ".join([NUMBER] * 6) + rb"\n"),
+    "put": re.compile(rb"put " + NAME + rb" ([rlbfud])([rlbfud]) " + rb" ".join([NUMBER] * 3) + rb"\n"),
+}
+STEPS = {"r": (1, 0, 0), "l": (-1, 0, 0), "b": (0, 1, 0), "f": (0, -1, 0), "u": (0, 0, 1), "d": (0, 0, -1)}
+
+
+class Wrong(Exception):
+    pass
+
+
+def formed(line):
+    for kind, form in FORMS.items():
+        match = form.fullmatch(line)
+        if match:
+            words = [word.decode() for word in match.groups()]
+            if kind == "part" and all(1 <= int(word) <= 16 for word in words[1:4]):
+                return kind, words
+            if kind == "cut" and all(1 <= int(word) <= 16 for word in words[3:]):
+                return kind, words
+            if kind == "put" and all(int(word) <= 48 for word in words[3:]):
+                dot = sum(a * b for a, b in zip(STEPS[words[1]], STEPS[words[2]]))
+                if dot == 0:
+                    return kind, words
+    return None, []
+
+
+def reasons(kind, words, parts, puts):
+    """Every reason that holds of a line."""
+    if kind is None:
+        return {1}
+    held = set()
+    if kind == "part":
+        held |= {3} if puts else set()
+        held |= {4} if any(part["name"] == words[0] for part in parts) else set()
+        held |= {2} if len(parts) == 32 else set()
+    if kind == "cut":
+        held |= {3} if puts or not parts else set()
+        if parts:
+            numbers = [int(word) for word in words]
+            lengths = parts[-1]["lengths"]
+            held |= {4} if any(numbers[k] + numbers[3 + k] > lengths[k] for k in range(3)) else set()
+            held |= {2} if len(parts[-1]["cuts"]) == 64 else set()
+    if kind == "put":
+        held |= {3} if not parts else set()
+        held |= {4} if not any(part["name"] == words[0] for part in parts) else set()
+        held |= {2} if len(puts) == 32 else set()
+    return held
+
+
+def read(text):
+    parts, puts = [], []
+    for number, line in enumerate(re.findall(rb"[^\n]*\n|[^\n]+", bytes(text))):
+        kind, words = formed(line)
+        held = reasons(kind, words, parts, puts)
+        for why in (1, 3, 4, 2):
+            if why in held:
+                raise Wrong([-6, number, why])
+        if kind == "part":
+            lengths = [int(word) for word in words[1:4]]
+            parts.append({"name": words[0], "lengths": lengths, "grain": "xyz".index(words[4]), "cuts": []})
+        elif kind == "cut":
+            parts[-1]["cuts"].append([int(word) for word in words])
+        else:
+            part = [part for part in parts if part["name"] == words[0]][0]
+            puts.append(lie(part, STEPS[words[1]], STEPS[words[2]], [int(word) for word in words[3:]]))
+    return puts
+
+
+def lie(part, a, b, corner):
+    c = (a[1] * b[2] - a[2] * b[1], a[2] * b[0] - a[0] * b[2], a[0] * b[1] - a[1] * b[0])
+    cells = set()
+    lengths = [sum(abs(way[k]) * part["lengths"][own] for own, way in enumerate((a, b, c))) for k in range(3)]
+    for cell in itertools.product(*(range(length) for length in part["lengths"])):
+        if any(all(cut[k] <= cell[k] < cut[k] + cut[3 + k] for k in range(3)) for cut in part["cuts"]):
+            continue
+        place = list(corner)
+        for own, way in enumerate((a, b, c)):
+            for k in range(3):
+                if way[k] == 1:
+                    place[k] += cell[own]
+                if way[k] == -1:
+                    place[k] += part["lengths"][own] - 1 - cell[own]
+        cells.add(tuple(place))
+    grain = [k for k in range(3) if (a, b, c)[part["grain"]][k] != 0][0]
+    return {"cells": cells, "grain": grain, "low": corner, "high": [corner[k] + lengths[k] for k in range(3)]}
+
+
+def judge(text, swells, held, own_right=True):
+    if len(text) > 65536 or len(swells) > 32 or len(held) > 32:
+        return [-2]
+    try:
+        puts = read(text)
+    except Wrong as wrong:
+        return wrong.args[0]
+    for i, j in itertools.combinations(range(len(puts)), 2):
+        if puts[i]["cells"] & puts[j]["cells"]:
+            return [-9, i, j]
+    if not len(puts) == len(swells) == len(held) or max(swells, default=0) > 100 or max(held, default=0) > 7:
+        return [-1]
+    return [0] if own_right else [-1]
+
+
+def plane(i, axis, t, m, text, swells, held):
+    refused = judge(text, swells, held, axis in (0, 1, 2) and t < 65 and abs(m) <= 200)
+    if refused != [0]:
+        return refused
+    puts = read(text)
+    if i not in range(len(puts)):
+        return [-4]
+    put = puts[i]
+    corner = put["high"][axis] if held[i] & (1, 2, 4)[axis] else put["low"][axis]
+    factor = 1 if put["grain"] == axis else 1 + Fraction(swells[i] * m, 100000)
+    lies = (corner + (t - corner) * factor) * 100000
+    assert lies.denominator == 1
+    return [0, int(lies)]
