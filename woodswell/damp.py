@@ -8,7 +8,7 @@ UNIT = 100000
 
 def held_plane(put, corner, axis):
     block = turned_block(put)
-    if (corner >> axis) & 1 == 1:
+    if ((corner >> axis) & 1) == 1:
         return block.high[axis]
     return block.low[axis]
 

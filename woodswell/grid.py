@@ -74,7 +74,7 @@ def cell_rows(put):
 
 def rows_meet(some, others):
     for place in some:
-        if some[place] & others.get(place, 0) != 0:
+        if (some[place] & others.get(place, 0)) != 0:
             return True
     return False
 
