@@ -110,6 +110,12 @@ def judge(text, swells, held, own_right=True):
     return [0] if own_right else [-1]
 
 
+def lies_at(put, swell, held, axis, t, m):
+    corner = put["high"][axis] if held & (1, 2, 4)[axis] else put["low"][axis]
+    factor = 1 if put["grain"] == axis else 1 + Fraction(swell * m, 100000)
+    return corner + (t - corner) * factor
+
+
 def plane(i, axis, t, m, text, swells, held):
     refused = judge(text, swells, held, axis in (0, 1, 2) and t < 65 and abs(m) <= 200)
     if refused != [0]:
@@ -117,9 +123,39 @@ def plane(i, axis, t, m, text, swells, held):
     puts = read(text)
     if i not in range(len(puts)):
         return [-4]
-    put = puts[i]
-    corner = put["high"][axis] if held[i] & (1, 2, 4)[axis] else put["low"][axis]
-    factor = 1 if put["grain"] == axis else 1 + Fraction(swells[i] * m, 100000)
-    lies = (corner + (t - corner) * factor) * 100000
+    lies = lies_at(puts[i], swells[i], held[i], axis, t, m) * 100000
     assert lies.denominator == 1
     return [0, int(lies)]
+
+
+def spans(put, swell, held, axis, m):
+    """By each number of a cell along the axis, between which planes it lies."""
+    return {k: (lies_at(put, swell, held, axis, k, m), lies_at(put, swell, held, axis, k + 1, m))
+            for k in range(put["low"][axis], put["high"][axis])}
+
+
+def bound(one, other, m):
+    """Whether two puts, each with its swell and held corner, bind: every cell against each that it may meet."""
+    met = []
+    for axis in range(3):
+        theirs = spans(*other, axis, m)
+        met.append({k: [n for n in theirs if max(low, theirs[n][0]) < min(high, theirs[n][1])]
+                    for k, (low, high) in spans(*one, axis, m).items()})
+    return any(cell in other[0]["cells"] for x, y, z in one[0]["cells"]
+               for cell in itertools.product(met[0][x], met[1][y], met[2][z]))
+
+
+def pair(i, j, text, swells, held, own_right):
+    """What refuses a pair, or the two puts, each with its swell and held corner."""
+    refused = judge(text, swells, held, own_right)
+    if refused != [0]:
+        return refused, []
+    puts = read(text)
+    if i not in range(len(puts)) or j not in range(len(puts)):
+        return [-4], []
+    return [-8] if i == j else [], [(puts[k], swells[k], held[k]) for k in (i, j)]
+
+
+def binds(i, j, m, text, swells, held):
+    refused, two = pair(i, j, text, swells, held, abs(m) <= 200)
+    return refused or [int(bound(*two, m))]

@@ -13,8 +13,12 @@ def held_plane(put, corner, axis):
     return block.low[axis]
 
 
-def plane_at(put, swell, corner, axis, t, m):
+def cell_length(put, swell, axis, m):
     if grain_axis(put) == axis:
-        return t * UNIT
+        return UNIT
+    return UNIT + swell * m
+
+
+def plane_at(put, swell, corner, axis, t, m):
     fixed = held_plane(put, corner, axis)
-    return fixed * UNIT + (t - fixed) * (UNIT + swell * m)
+    return fixed * UNIT + (t - fixed) * cell_length(put, swell, axis, m)

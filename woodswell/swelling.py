@@ -1,5 +1,6 @@
 """The calls: each answers one list of whole numbers."""
 
+from woodswell.binding import Piece, first_layers, pieces_bind
 from woodswell.damp import plane_at
 from woodswell.grid import first_overlap
 from woodswell.worktext import read_work
@@ -61,3 +62,25 @@ def plane(i, axis, t, m, text, swells, held):
     if i >= len(case.puts):
         return [-4]
     return [0, plane_at(case.puts[i], swells[i], held[i], axis, t, m)]
+
+
+def pair_refusal(case, i, j):
+    if len(case.refusal) > 0:
+        return case.refusal
+    if i >= len(case.puts) or j >= len(case.puts):
+        return [-4]
+    if i == j:
+        return [-8]
+    return []
+
+
+def binds(i, j, m, text, swells, held):
+    case = read_case(text, swells, held, is_dampness(m))
+    refusal = pair_refusal(case, i, j)
+    if len(refusal) > 0:
+        return refusal
+    one = Piece(case.puts[i], swells[i], held[i])
+    other = Piece(case.puts[j], swells[j], held[j])
+    if pieces_bind(one, other, first_layers(), m):
+        return [1]
+    return [0]

@@ -1,0 +1,54 @@
+"""Large works are answered within a few seconds."""
+
+import time
+import unittest
+
+from tests.asking import to_bytes
+from woodswell.swelling import binds
+
+FEW_SECONDS = 4
+
+
+def combed(name, count, most):
+    """A block's text with as many cuts as may be; every second layer is left of it."""
+    cuts = [f"cut 0 0 {layer} 16 16 1\n" for layer in range(count, 16, 2)]
+    more = [f"cut {k % 16} {k // 16} {count} 1 1 1\n" for k in range(most - len(cuts))]
+    return f"part {name} 16 16 16 z\n" + "".join(cuts + more)
+
+
+def many_combs():
+    """32 puts of large blocks with many cuts, two and two within one another."""
+    parts = "".join(combed(f"a{k}", 0, 64) + combed(f"b{k}", 1, 64) for k in range(16))
+    puts = ""
+    for k in range(16):
+        corner = f"{k % 4 * 16} {k // 4 * 16} {k % 3 * 16}"
+        puts += f"put a{k} rb {corner}\nput b{k} rb {corner}\n"
+    return to_bytes(parts + puts)
+
+
+def many_blocks():
+    puts = "".join(f"put a rb {k % 4 * 16} {k // 4 % 4 * 16} {k // 16 * 16}\n" for k in range(32))
+    return to_bytes("part a 16 16 16 z\n" + puts)
+
+
+class Large(unittest.TestCase):
+    def answers(self, answer, function, *arguments):
+        before = time.process_time()
+        told = function(*arguments)
+        self.assertLess(time.process_time() - before, FEW_SECONDS)
+        self.assertEqual(told, answer)
+
+    def test_binds(self):
+        combs = many_combs()
+        self.assertGreater(len(combs), 30000)
+        for m in (-200, 1, 200):
+            # All swell alike from one corner along x and y, and along z not at all.
+            self.answers([0], binds, 0, 1, m, combs, [100] * 32, [0] * 32)
+            self.answers([0], binds, 30, 31, m, combs, [100] * 32, [0] * 32)
+        blocks = many_blocks()
+        self.answers([1], binds, 0, 1, 200, blocks, [100] * 32, [0] * 32)
+        self.answers([0], binds, 0, 31, 200, blocks, [100] * 32, [0] * 32)
+
+
+if __name__ == "__main__":
+    unittest.main()

@@ -1,0 +1,115 @@
+"""Works that are made by dice, the same at every run."""
+
+from tests import reference
+from tests.asking import WAYS, to_bytes
+
+ODD_NUMBERS = ["0", "1", "16", "17", "48", "49", "00", "01", "", "x", "99999999999999999999", "-1"]
+
+
+def some_part(dice, name, lengths=None):
+    lengths = lengths or [dice.choice((1, 2, 3, 5, dice.randint(1, 16))) for own in range(3)]
+    lines = ["part {} {} {} {} {}".format(name, *lengths, dice.choice("xyz"))]
+    for cut in range(dice.choice((0, 0, 1, 2, 5))):
+        start = [dice.randrange(length) for length in lengths]
+        sides = [dice.randint(1, lengths[own] - start[own]) for own in range(3)]
+        lines.append("cut {} {} {} {} {} {}".format(*start, *sides))
+    return lines
+
+
+def some_put(dice, name, corner):
+    return "put {} {} {} {} {}".format(name, dice.choice(WAYS), *corner)
+
+
+def some_work(dice):
+    names = [f"p{k}" for k in range(dice.randint(1, 4))]
+    lines = [line for name in names for line in some_part(dice, name)]
+    reach = dice.choice((4, 12, 48))
+    for put in range(dice.randint(0, 5)):
+        lines.append(some_put(dice, dice.choice(names), [dice.randint(0, reach) for axis in range(3)]))
+    return lines
+
+
+def spoilt(dice, lines):
+    lines = list(lines)
+    k = dice.randrange(len(lines))
+    harm = dice.randrange(5)
+    if harm == 0:
+        words = lines[k].split(" ")
+        words[dice.randrange(len(words))] = dice.choice(ODD_NUMBERS)
+        lines[k] = " ".join(words)
+    elif harm == 1:
+        lines.insert(dice.randrange(len(lines) + 1), lines[k])
+    elif harm == 2:
+        lines.pop(k)
+    elif harm == 3:
+        dice.shuffle(lines)
+    else:
+        lines[k] = lines[k].replace(" ", dice.choice(("", "  ", "\t", " 1 ")), 1)
+    return lines
+
+
+def some_text(dice):
+    lines = some_work(dice)
+    if dice.random() < 0.3:
+        lines = spoilt(dice, lines)
+    text = to_bytes("".join(line + "\n" for line in lines))
+    if dice.random() < 0.03:
+        text = text[:dice.randrange(len(text) + 1)]
+    if dice.random() < 0.03 and text:
+        text[dice.randrange(len(text))] = dice.randrange(256)
+    return text, sum(1 for line in lines if line.startswith("put "))
+
+
+def told(dice, count, most):
+    numbers = [dice.randint(0, most) for put in range(count)]
+    if dice.random() < 0.05:
+        numbers.append(0)
+    if dice.random() < 0.05 and numbers:
+        numbers[dice.randrange(len(numbers))] = dice.choice((most, most + 1, 4294967295))
+    return numbers
+
+
+def near_lines(dice):
+    """Two parts with cuts, put near one another: their blocks touch, or lie within one another, or nearly."""
+    lines = []
+    puts = []
+    middle = dice.randint(16, 30)
+    reach = dice.choice((2, 4, 8))
+    for name in ("a", "b"):
+        lengths = [dice.choice((1, 2, 3, dice.randint(1, 16))) for own in range(3)]
+        lines += some_part(dice, name, lengths)
+        puts.append(some_put(dice, name, [middle + dice.randint(-reach, reach) for axis in range(3)]))
+    return lines + puts
+
+
+def plug_lines(dice):
+    """A block with a hole, and another in the hole, tight or with room, turned in some way."""
+    sides = [dice.randint(3, 16) for axis in range(3)]
+    start = [dice.randrange(side - 1) for side in sides]
+    hole = [dice.randint(1, sides[axis] - start[axis]) for axis in range(3)]
+    corner = [dice.randint(8, 20) for axis in range(3)]
+    room = [dice.choice((0, 0, 1, 2)) if hole[axis] > 2 else 0 for axis in range(3)]
+    plug = [hole[axis] - room[axis] for axis in range(3)]
+    place = [corner[axis] + start[axis] + dice.randint(0, room[axis]) for axis in range(3)]
+    ways = dice.choice(WAYS)
+    axes = ["rlbfud".index(letter) // 2 for letter in ways]
+    axes.append(3 - sum(axes))
+    return ["part a {} {} {} {}".format(*sides, dice.choice("xyz")),
+            "cut {} {} {} {} {} {}".format(*start, *hole),
+            "part b {} {} {} {}".format(*(plug[axis] for axis in axes), dice.choice("xyz")),
+            "put a rb {} {} {}".format(*corner),
+            "put b {} {} {} {}".format(ways, *place)]
+
+
+def close_work(dice):
+    """A work whose puts are close to one another and overlap nowhere: its text, swells and held corners."""
+    while True:
+        lines = dice.choice((near_lines, plug_lines))(dice)
+        if dice.random() < 0.3:
+            lines.append(some_put(dice, "a", [dice.randint(10, 30) for axis in range(3)]))
+        text = to_bytes("".join(line + "\n" for line in lines))
+        puts = sum(1 for line in lines if line.startswith("put "))
+        swells = [dice.choice((0, 1, 100, dice.randint(0, 100))) for put in range(puts)]
+        held = [dice.randrange(8) for put in range(puts)]
+        if reference.judge(text, swells, held) == [0]:
+            return text, swells, held
