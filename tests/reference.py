@@ -159,3 +159,11 @@ def pair(i, j, text, swells, held, own_right):
 def binds(i, j, m, text, swells, held):
     refused, two = pair(i, j, text, swells, held, abs(m) <= 200)
     return refused or [int(bound(*two, m))]
+
+
+def first(i, j, dry, text, swells, held):
+    refused, two = pair(i, j, text, swells, held, dry in (0, 1))
+    if refused:
+        return refused
+    bound_at = [m for m in range(-200, 201) if m != 0 and (m < 0) == (dry == 1) and bound(*two, m)]
+    return [0, min(bound_at, key=abs)] if bound_at else [-3]

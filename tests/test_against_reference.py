@@ -7,7 +7,7 @@ import unittest
 from tests import reference
 from tests.asking import ask
 from tests.works import close_work, some_text, told
-from woodswell.swelling import binds, judge, plane
+from woodswell.swelling import binds, first, judge, plane
 
 
 class AgainstReference(unittest.TestCase):
@@ -31,6 +31,13 @@ class AgainstReference(unittest.TestCase):
                 answer = ask(binds, *own, text, swells, held)
                 self.assertEqual(answer, reference.binds(*own, text, swells, held), own)
                 seen["binds", answer[0]] += 1
+                own = own[:2] + (dice.choice((0, 1, 2)),)
+                answer = ask(first, *own, text, swells, held)
+                refused, two = reference.pair(*own[:2], text, swells, held, own[2] < 2)
+                if refused:
+                    self.assertEqual(answer, refused, own)
+                else:
+                    self.assertIn(answer[0], (0, -3), own)
         # The works are such that each answer is often seen.
         for answer in (0, -6, -9, -1, ("plane", 0), ("plane", -4), ("binds", 0), ("binds", -4), ("binds", -8)):
             self.assertGreater(seen[answer], 50, seen)
@@ -48,6 +55,10 @@ class AgainstReference(unittest.TestCase):
                     self.assertEqual(answer, reference.binds(i, j, m, text, swells, held), m)
                     self.assertEqual(answer, ask(binds, j, i, m, text, swells, held), m)
                     seen[m, answer[0]] += 1
+                if case % 10 == 0:
+                    for dry in (0, 1):
+                        answer = ask(first, i, j, dry, text, swells, held)
+                        self.assertEqual(answer, reference.first(i, j, dry, text, swells, held), dry)
         for m in (-200, -1, 1, 200):
             for answer in (0, 1):
                 self.assertGreater(seen[m, answer], 50, seen)

@@ -4,7 +4,7 @@ import time
 import unittest
 
 from tests.asking import to_bytes
-from woodswell.swelling import binds
+from woodswell.swelling import binds, first
 
 FEW_SECONDS = 4
 
@@ -48,6 +48,16 @@ class Large(unittest.TestCase):
         blocks = many_blocks()
         self.answers([1], binds, 0, 1, 200, blocks, [100] * 32, [0] * 32)
         self.answers([0], binds, 0, 31, 200, blocks, [100] * 32, [0] * 32)
+
+    def test_first(self):
+        combs = many_combs()
+        for dry in (0, 1):
+            self.answers([-3], first, 0, 1, dry, combs, [100] * 32, [0] * 32)
+            self.answers([-3], first, 31, 30, dry, combs, [100] * 32, [7] * 32)
+        blocks = many_blocks()
+        self.answers([0, 1], first, 0, 1, 0, blocks, [100] * 32, [0] * 32)
+        self.answers([-3], first, 0, 1, 1, blocks, [100] * 32, [0] * 32)
+        self.answers([-3], first, 0, 31, 0, blocks, [100] * 32, [0] * 32)
 
 
 if __name__ == "__main__":

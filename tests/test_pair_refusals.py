@@ -3,7 +3,7 @@
 import unittest
 
 from tests.asking import ask, to_bytes
-from woodswell.swelling import binds
+from woodswell.swelling import binds, first
 
 MOST = 4294967295
 CUBE = "part c 1 1 1 x\n"
@@ -15,6 +15,7 @@ FAULT = OVERLAP + to_bytes("put c rb 49 0 0\n")
 # Of each call: what its own number may be and what it may not be.
 CALLS = (
     (binds, (-200, -1, 0, 1, 200), (-201, 201, -202, 65536, -2147483648, 2147483647)),
+    (first, (0, 1), (2, 3, 65536, MOST)),
 )
 NO_PAIRS = ((2, 0), (0, 2), (2, 2), (1, 3), (MOST, 0), (0, MOST), (MOST, MOST), (MOST, MOST - 1))
 

@@ -87,10 +87,24 @@ def plug_lines(dice):
     sides = [dice.randint(3, 16) for axis in range(3)]
     start = [dice.randrange(side - 1) for side in sides]
     hole = [dice.randint(1, sides[axis] - start[axis]) for axis in range(3)]
-    corner = [dice.randint(8, 20) for axis in range(3)]
     room = [dice.choice((0, 0, 1, 2)) if hole[axis] > 2 else 0 for axis in range(3)]
+    before = [dice.randint(0, room[axis]) for axis in range(3)]
+    return hole_and_plug(dice, sides, start, hole, room, before)
+
+
+def roomy_lines(dice):
+    """A large block with a large hole, and another in the hole that touches it nowhere."""
+    sides = [dice.randint(10, 16) for axis in range(3)]
+    start = [dice.randint(1, 3) for axis in range(3)]
+    hole = [sides[axis] - start[axis] - 1 for axis in range(3)]
+    room = [dice.randint(2, 4) for axis in range(3)]
+    return hole_and_plug(dice, sides, start, hole, room, [dice.randint(1, room[axis] - 1) for axis in range(3)])
+
+
+def hole_and_plug(dice, sides, start, hole, room, before):
+    corner = [dice.randint(8, 20) for axis in range(3)]
     plug = [hole[axis] - room[axis] for axis in range(3)]
-    place = [corner[axis] + start[axis] + dice.randint(0, room[axis]) for axis in range(3)]
+    place = [corner[axis] + start[axis] + before[axis] for axis in range(3)]
     ways = dice.choice(WAYS)
     axes = ["rlbfud".index(letter) // 2 for letter in ways]
     axes.append(3 - sum(axes))
@@ -104,7 +118,7 @@ def plug_lines(dice):
 def close_work(dice):
     """A work whose puts are close to one another and overlap nowhere: its text, swells and held corners."""
     while True:
-        lines = dice.choice((near_lines, plug_lines))(dice)
+        lines = dice.choice((near_lines, plug_lines, roomy_lines))(dice)
         if dice.random() < 0.3:
             lines.append(some_put(dice, "a", [dice.randint(10, 30) for axis in range(3)]))
         text = to_bytes("".join(line + "\n" for line in lines))

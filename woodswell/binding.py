@@ -1,6 +1,6 @@
 """Whether two puts bind: whether a cell of the one and a cell of the other have a box in common that isn't flat."""
 
-from woodswell.damp import cell_length, plane_at
+from woodswell.damp import MOST_DAMP, cell_length, plane_at
 from woodswell.grid import cell_rows, turned_block
 
 # A put's cells are bits of one number: the cell (x, y, z), told from its block's lowest corner, is the bit
@@ -86,3 +86,13 @@ def pieces_bind(one, other, layers, m):
         if reached == 0:
             return False
     return (reached & other.cells) != 0
+
+
+# way is 1 when damp, -1 when dry; 0, if they bind at no dampness that way. They may come free again beyond where they
+# bind first, so every dampness is asked in turn, the nearest to 0 first.
+def first_bound(one, other, way):
+    layers = first_layers()
+    for far in range(1, MOST_DAMP + 1):
+        if pieces_bind(one, other, layers, way * far):
+            return way * far
+    return 0

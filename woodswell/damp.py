@@ -5,6 +5,8 @@ from woodswell.grid import grain_axis, turned_block
 # Planes are told in hundred-thousandths of a cell: there they are whole numbers at every swell and dampness.
 UNIT = 100000
 
+MOST_DAMP = 200
+
 
 def held_plane(put, corner, axis):
     block = turned_block(put)

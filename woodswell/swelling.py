@@ -1,7 +1,7 @@
 """The calls: each answers one list of whole numbers."""
 
-from woodswell.binding import Piece, first_layers, pieces_bind
-from woodswell.damp import plane_at
+from woodswell.binding import Piece, first_bound, first_layers, pieces_bind
+from woodswell.damp import MOST_DAMP, plane_at
 from woodswell.grid import first_overlap
 from woodswell.worktext import read_work
 
@@ -11,7 +11,7 @@ MOST_SWELL = 100
 MOST_HELD = 7
 MOST_AXIS = 2
 MOST_PLACE = 64
-MOST_DAMP = 200
+MOST_DRY = 1
 
 
 class Case:
@@ -79,8 +79,19 @@ def binds(i, j, m, text, swells, held):
     refusal = pair_refusal(case, i, j)
     if len(refusal) > 0:
         return refusal
-    one = Piece(case.puts[i], swells[i], held[i])
-    other = Piece(case.puts[j], swells[j], held[j])
-    if pieces_bind(one, other, first_layers(), m):
+    pieces = [Piece(case.puts[k], swells[k], held[k]) for k in (i, j)]
+    if pieces_bind(pieces[0], pieces[1], first_layers(), m):
         return [1]
     return [0]
+
+
+def first(i, j, dry, text, swells, held):
+    case = read_case(text, swells, held, dry <= MOST_DRY)
+    refusal = pair_refusal(case, i, j)
+    if len(refusal) > 0:
+        return refusal
+    pieces = [Piece(case.puts[k], swells[k], held[k]) for k in (i, j)]
+    m = first_bound(pieces[0], pieces[1], -1 if dry == 1 else 1)
+    if m == 0:
+        return [-3]
+    return [0, m]
