@@ -167,3 +167,16 @@ def first(i, j, dry, text, swells, held):
         return refused
     bound_at = [m for m in range(-200, 201) if m != 0 and (m < 0) == (dry == 1) and bound(*two, m)]
     return [0, min(bound_at, key=abs)] if bound_at else [-3]
+
+
+def work(dry, text, swells, held):
+    refused = judge(text, swells, held, dry in (0, 1))
+    if refused != [0]:
+        return refused
+    pieces = list(zip(read(text), swells, held))
+    for far in range(1, 201):
+        m = -far if dry == 1 else far
+        for i, j in itertools.combinations(range(len(pieces)), 2):
+            if bound(pieces[i], pieces[j], m):
+                return [0, m, i, j]
+    return [-3]

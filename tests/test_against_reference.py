@@ -6,8 +6,8 @@ import unittest
 
 from tests import reference
 from tests.asking import ask
-from tests.works import close_work, some_text, told
-from woodswell.swelling import binds, first, judge, plane
+from tests.works import close_work, crowd_work, some_text, told
+from woodswell.swelling import binds, first, judge, plane, work
 
 
 class AgainstReference(unittest.TestCase):
@@ -38,8 +38,16 @@ class AgainstReference(unittest.TestCase):
                     self.assertEqual(answer, refused, own)
                 else:
                     self.assertIn(answer[0], (0, -3), own)
+                answer = ask(work, own[2], text, swells, held)
+                refused = reference.judge(text, swells, held, own[2] < 2)
+                if refused != [0]:
+                    self.assertEqual(answer, refused, own[2])
+                else:
+                    self.assertIn(answer[0], (0, -3), own[2])
+                seen["work", answer[0]] += 1
         # The works are such that each answer is often seen.
-        for answer in (0, -6, -9, -1, ("plane", 0), ("plane", -4), ("binds", 0), ("binds", -4), ("binds", -8)):
+        for answer in (0, -6, -9, -1, ("plane", 0), ("plane", -4), ("binds", 0), ("binds", -4), ("binds", -8),
+                       ("work", -3), ("work", -6), ("work", -9), ("work", -1)):
             self.assertGreater(seen[answer], 50, seen)
 
     def test_close_puts(self):
@@ -62,6 +70,15 @@ class AgainstReference(unittest.TestCase):
         for m in (-200, -1, 1, 200):
             for answer in (0, 1):
                 self.assertGreater(seen[m, answer], 50, seen)
+
+    def test_work_of_close_puts_and_crowds(self):
+        dice = random.Random(25)
+        for case in range(20):
+            text, swells, held = (close_work, crowd_work)[case % 2](dice)
+            for dry in (0, 1):
+                with self.subTest(case=case, text=bytes(text), swells=swells, held=held, dry=dry):
+                    answer = ask(work, dry, text, swells, held)
+                    self.assertEqual(answer, reference.work(dry, text, swells, held))
 
 
 if __name__ == "__main__":

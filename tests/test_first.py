@@ -137,6 +137,24 @@ class ComingFreeAgain(FirstCase):
         self.answers(1, DAMP, text, [100, 0], [LEFT, LEFT])
 
 
+    def test_bound_for_a_short_while(self):
+        # On x the one comes to the other, a cell away, on y the other leaves it: each at 1 / (16 s) or 1 / (15 s).
+        text = "part a 16 1 1 y\ncut 0 0 0 15 1 1\npart b 1 16 1 x\ncut 0 0 0 1 15 1\nput a rb 10 20 0\nput b rb {} 5 0\n"
+        lasting = set()
+        for one in range(30, 101, 3):
+            for other in list(range(20, 101, 4)) + [one, one + 5]:
+                if other > 100:
+                    continue
+                for dry, place, comes, leaves in ((DAMP, 27, 16, 15), (DRY, 23, 15, 16)):
+                    way = -1 if dry else 1
+                    bound = [way * k for k in range(1, 201) if k * comes * one > 100000 > k * leaves * other]
+                    lasting.add(len(bound))
+                    self.answers(bound[0] if bound else NONE, dry, text.format(place), [one, other], [0, 0])
+                    if len(bound) == 1:
+                        self.assertEqual(self.bound_at(dry, text.format(place), [one, other], [0, 0]), bound)
+        self.assertGreater(lasting, {0, 1, 2, 3, 4, 5, 10})
+
+
 class AgainstBinds(FirstCase):
     def test_what_is_told_first_is_first(self):
         dice = random.Random(22)

@@ -4,7 +4,7 @@ import time
 import unittest
 
 from tests.asking import to_bytes
-from woodswell.swelling import binds, first
+from woodswell.swelling import binds, first, work
 
 FEW_SECONDS = 4
 
@@ -23,6 +23,19 @@ def many_combs():
     for k in range(16):
         corner = f"{k % 4 * 16} {k // 4 * 16} {k % 3 * 16}"
         puts += f"put a{k} rb {corner}\nput b{k} rb {corner}\n"
+    return to_bytes(parts + puts)
+
+
+def many_posts(gap):
+    """32 puts, all of one large block of which a post is left, as far from one another as told."""
+    parts = puts = ""
+    for k in range(32):
+        x, y = k % 6 * gap, k // 6 * gap
+        sides = [f"cut 0 0 0 {x} 16 16\n" if x else "", f"cut {x + 1} 0 0 {15 - x} 16 16\n" if x < 15 else "",
+                 f"cut 0 0 0 16 {y} 16\n" if y else "", f"cut 0 {y + 1} 0 16 {15 - y} 16\n" if y < 15 else ""]
+        more = [f"cut {x} {y} {z} 1 1 1\n" for z in range(1, 16, 3) for again in range(12)]
+        parts += f"part p{k} 16 16 16 {'xyz'[k % 3]}\n" + "".join(sides + more)
+        puts += f"put p{k} rb 20 20 20\n"
     return to_bytes(parts + puts)
 
 
@@ -58,6 +71,21 @@ class Large(unittest.TestCase):
         self.answers([0, 1], first, 0, 1, 0, blocks, [100] * 32, [0] * 32)
         self.answers([-3], first, 0, 1, 1, blocks, [100] * 32, [0] * 32)
         self.answers([-3], first, 0, 31, 0, blocks, [100] * 32, [0] * 32)
+
+    def test_work(self):
+        combs, blocks, posts = many_combs(), many_blocks(), many_posts(3)
+        for dry in (0, 1):
+            # None is found: all keep still.
+            for text in (combs, blocks, posts):
+                self.answers([-3], work, dry, text, [0] * 32, [0] * 32)
+            self.answers([-3], work, dry, posts, [1 + k % 3 for k in range(32)], [k % 8 for k in range(32)])
+        self.answers([-3], work, 1, combs, [100] * 32, [0] * 32)
+        self.answers([0, 1, 2, 8], work, 0, combs, [100] * 32, [0] * 32)
+        self.answers([0, 1, 0, 1], work, 0, blocks, [100] * 32, [0] * 32)
+        self.answers([0, 1, 26, 31], work, 0, blocks, [0] * 31 + [100], [7] * 32)
+        # Late ones are found as soon.
+        self.answers([0, 143, 0, 6], work, 0, posts, [100] * 32, [k % 8 for k in range(32)])
+        self.answers([0, -112, 2, 8], work, 1, posts, [100] * 32, [k % 8 for k in range(32)])
 
 
 if __name__ == "__main__":

@@ -127,3 +127,51 @@ def close_work(dice):
         held = [dice.randrange(8) for put in range(puts)]
         if reference.judge(text, swells, held) == [0]:
             return text, swells, held
+
+
+def named_and_moved(lines, number, moves):
+    """The lines with names of their own, put elsewhere."""
+    made = []
+    for line in lines:
+        words = line.split(" ")
+        if words[0] != "cut":
+            words[1] += str(number)
+        if words[0] == "put":
+            words[3:] = [str(int(word) + move) for word, move in zip(words[3:], moves)]
+        made.append(" ".join(words))
+    return made
+
+
+def rooms_work(dice):
+    """Several large blocks with room in them and a block in each room, all far from one another; some are alike."""
+    places = dice.sample([(-8, -8, 0), (22, -8, 0), (-8, 22, 0), (22, 22, 0)], dice.randint(2, 4))
+    lines, told_of = [], {}
+    for number, moves in enumerate(places):
+        if number == 0 or dice.random() < 0.6:
+            room = roomy_lines(dice)
+            swells = [dice.choice((0, 100, dice.randint(20, 100))) for put in range(2)]
+            held = [dice.randrange(8) for put in range(2)]
+        lines += named_and_moved(room, number, moves)
+        for name, swell, corner in zip("ab", swells, held):
+            told_of[f"{name}{number}"] = (swell, corner)
+    puts = [line for line in lines if line.startswith("put ")]
+    dice.shuffle(puts)
+    numbers = [told_of[line.split(" ")[1]] for line in puts]
+    text = "".join(line + "\n" for line in [line for line in lines if line not in puts] + puts)
+    return to_bytes(text), [swell for swell, corner in numbers], [corner for swell, corner in numbers]
+
+
+def crowd_work(dice):
+    """Several small parts with cuts, put in a small room; they overlap nowhere, and many touch one another."""
+    names = [f"p{k}" for k in range(dice.randint(1, 4))]
+    lines = []
+    for name in names:
+        lines += some_part(dice, name, [dice.choice((1, 2, dice.randint(1, 7))) for own in range(3)])
+    puts = 0
+    for attempt in range(dice.randint(4, 16)):
+        more = lines + [some_put(dice, dice.choice(names), [dice.randint(20, 27) for axis in range(3)])]
+        if reference.judge(to_bytes("".join(line + "\n" for line in more)), [0] * (puts + 1), [0] * (puts + 1)) == [0]:
+            lines = more
+            puts += 1
+    swells = [dice.choice((0, 0, 1, dice.randint(0, 100))) for put in range(puts)]
+    return to_bytes("".join(line + "\n" for line in lines)), swells, [dice.randrange(8) for put in range(puts)]

@@ -46,25 +46,34 @@ def first_layers():
     return layers
 
 
-def planes_of(piece, axis, m):
+def planes_at(piece, axis, m):
     low = piece.block.low[axis]
     lowest = plane_at(piece.put, piece.swell, piece.held, axis, low, m)
     length = cell_length(piece.put, piece.swell, axis, m)
     return [lowest + k * length for k in range(piece.block.high[axis] - low + 1)]
 
 
-# Which cells of the two have more than a plane in common on an axis, by their numbers along it. Planes keep their
-# order, so one walk along both tells them all.
+# Each plane by where it lies at both dampnesses. It moves evenly from the one to the other, so what it isn't below at
+# either, it isn't below between them.
+def planes_of(piece, axis, near, far):
+    return list(zip(planes_at(piece, axis, near), planes_at(piece, axis, far)))
+
+
+def is_below(plane, other):
+    return plane[0] < other[0] or plane[1] < other[1]
+
+
+# Which cells of the two may have more than a plane in common on an axis, by their numbers along it. Planes keep their
+# order, so what lies wholly below one cell lies wholly below the next, too.
 def shared_spans(some, others):
     pairs = []
-    a = 0
-    b = 0
-    while a + 1 < len(some) and b + 1 < len(others):
-        if some[a] < others[b + 1] and others[b] < some[a + 1]:
+    start = 0
+    for a in range(len(some) - 1):
+        while start + 1 < len(others) and not is_below(some[a], others[start + 1]):
+            start = start + 1
+        b = start
+        while b + 1 < len(others) and is_below(others[b], some[a + 1]):
             pairs.append((a, b))
-        if some[a + 1] < others[b + 1]:
-            a = a + 1
-        else:
             b = b + 1
     return pairs
 
@@ -76,23 +85,46 @@ def carried(cells, layer, step, pairs):
     return reached
 
 
+# False only if they bind at no dampness from near to far; of one dampness alone it tells just whether they bind.
 # Boxes have a box in common if their spans have one on each axis, so the cells of the one are carried to all cells of
 # the other's block that they reach, axis by axis.
-def pieces_bind(one, other, layers, m):
+def may_bind(one, other, near, far):
+    layers = first_layers()
     reached = one.cells
     for axis in range(3):
-        pairs = shared_spans(planes_of(one, axis, m), planes_of(other, axis, m))
+        pairs = shared_spans(planes_of(one, axis, near, far), planes_of(other, axis, near, far))
         reached = carried(reached, layers[axis], BIT_STEPS[axis], pairs)
         if reached == 0:
             return False
     return (reached & other.cells) != 0
 
 
-# way is 1 when damp, -1 when dry; 0, if they bind at no dampness that way. They may come free again beyond where they
-# bind first, so every dampness is asked in turn, the nearest to 0 first.
-def first_bound(one, other, way):
-    layers = first_layers()
-    for far in range(1, MOST_DAMP + 1):
-        if pieces_bind(one, other, layers, way * far):
-            return way * far
+# way is 1 when damp, -1 when dry, most how far from 0 it's looked for; 0, if they bind nowhere there. They may come
+# free again beyond where they bind first, so spans of dampness are halved, and the half nearer to 0 is asked first.
+def first_bound(one, other, way, most):
+    spans = [(1, most)]
+    while len(spans) > 0:
+        span = spans.pop()
+        near = span[0]
+        far = span[1]
+        if near <= far and may_bind(one, other, way * near, way * far):
+            if near == far:
+                return way * near
+            middle = (near + far) // 2
+            spans.append((middle + 1, far))
+            spans.append((near, middle))
     return 0
+
+
+# The dampness and the pair; empty, if there's none. A pair takes the place of an earlier one only if it binds nearer
+# to 0, so of those that bind at the same the first stays.
+def first_pair(pieces, way):
+    told = []
+    most = MOST_DAMP
+    for i in range(len(pieces)):
+        for j in range(i + 1, len(pieces)):
+            m = first_bound(pieces[i], pieces[j], way, most)
+            if m != 0:
+                told = [m, i, j]
+                most = abs(m) - 1
+    return told

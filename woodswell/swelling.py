@@ -1,6 +1,6 @@
 """The calls: each answers one list of whole numbers."""
 
-from woodswell.binding import Piece, first_bound, first_layers, pieces_bind
+from woodswell.binding import Piece, first_bound, first_pair, may_bind
 from woodswell.damp import MOST_DAMP, plane_at
 from woodswell.grid import first_overlap
 from woodswell.worktext import read_work
@@ -74,15 +74,25 @@ def pair_refusal(case, i, j):
     return []
 
 
+def pieces_of(case, numbers, swells, held):
+    return [Piece(case.puts[k], swells[k], held[k]) for k in numbers]
+
+
 def binds(i, j, m, text, swells, held):
     case = read_case(text, swells, held, is_dampness(m))
     refusal = pair_refusal(case, i, j)
     if len(refusal) > 0:
         return refusal
-    pieces = [Piece(case.puts[k], swells[k], held[k]) for k in (i, j)]
-    if pieces_bind(pieces[0], pieces[1], first_layers(), m):
+    pieces = pieces_of(case, [i, j], swells, held)
+    if may_bind(pieces[0], pieces[1], m, m):
         return [1]
     return [0]
+
+
+def way_of(dry):
+    if dry == 1:
+        return -1
+    return 1
 
 
 def first(i, j, dry, text, swells, held):
@@ -90,8 +100,19 @@ def first(i, j, dry, text, swells, held):
     refusal = pair_refusal(case, i, j)
     if len(refusal) > 0:
         return refusal
-    pieces = [Piece(case.puts[k], swells[k], held[k]) for k in (i, j)]
-    m = first_bound(pieces[0], pieces[1], -1 if dry == 1 else 1)
+    pieces = pieces_of(case, [i, j], swells, held)
+    m = first_bound(pieces[0], pieces[1], way_of(dry), MOST_DAMP)
     if m == 0:
         return [-3]
     return [0, m]
+
+
+def work(dry, text, swells, held):
+    case = read_case(text, swells, held, dry <= MOST_DRY)
+    if len(case.refusal) > 0:
+        return case.refusal
+    pieces = pieces_of(case, list(range(len(case.puts))), swells, held)
+    told = first_pair(pieces, way_of(dry))
+    if len(told) == 0:
+        return [-3]
+    return [0] + told
