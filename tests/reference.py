@@ -180,3 +180,17 @@ def work(dry, text, swells, held):
             if bound(pieces[i], pieces[j], m):
                 return [0, m, i, j]
     return [-3]
+
+
+def gap(i, j, axis, m, text, swells, held):
+    refused, two = pair(i, j, text, swells, held, axis in (0, 1, 2) and abs(m) <= 200)
+    if refused:
+        return refused
+    apart = []
+    for cell, step in itertools.product(two[0][0]["cells"], (1, -1)):
+        beside = tuple(cell[k] + (step if k == axis else 0) for k in range(3))
+        if beside in two[1][0]["cells"]:
+            faces = [lies_at(*piece, axis, max(cell[axis], beside[axis]), m) for piece in two]
+            apart.append((faces[1] - faces[0]) * step * 100000)
+    assert all(distance.denominator == 1 for distance in map(Fraction, apart))
+    return [0, int(max(apart))] if apart else [-3]

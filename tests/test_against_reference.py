@@ -7,7 +7,7 @@ import unittest
 from tests import reference
 from tests.asking import ask
 from tests.works import close_work, crowd_work, some_text, told
-from woodswell.swelling import binds, first, judge, plane, work
+from woodswell.swelling import binds, first, gap, judge, plane, work
 
 
 class AgainstReference(unittest.TestCase):
@@ -45,15 +45,21 @@ class AgainstReference(unittest.TestCase):
                 else:
                     self.assertIn(answer[0], (0, -3), own[2])
                 seen["work", answer[0]] += 1
+                own = (dice.randint(0, puts), dice.randint(0, puts), dice.choice((0, 1, 2, 0, 1, 2, 3)),
+                       dice.choice((200, dice.randint(-200, 200), dice.randint(-200, 201))))
+                answer = ask(gap, *own, text, swells, held)
+                self.assertEqual(answer, reference.gap(*own, text, swells, held), own)
+                seen["gap", answer[0]] += 1
         # The works are such that each answer is often seen.
         for answer in (0, -6, -9, -1, ("plane", 0), ("plane", -4), ("binds", 0), ("binds", -4), ("binds", -8),
-                       ("work", -3), ("work", -6), ("work", -9), ("work", -1)):
+                       ("work", -3), ("work", -6), ("work", -9), ("work", -1),
+                       ("gap", -6), ("gap", -9), ("gap", -1), ("gap", -4), ("gap", -8), ("gap", -3)):
             self.assertGreater(seen[answer], 50, seen)
 
     def test_close_puts(self):
         dice = random.Random(21)
         seen = collections.Counter()
-        for case in range(500):
+        for case in range(350):
             text, swells, held = close_work(dice)
             i, j = dice.sample(range(len(swells)), 2)
             with self.subTest(case=case, text=bytes(text), swells=swells, held=held):
@@ -70,6 +76,21 @@ class AgainstReference(unittest.TestCase):
         for m in (-200, -1, 1, 200):
             for answer in (0, 1):
                 self.assertGreater(seen[m, answer], 50, seen)
+
+    def test_gap_of_close_puts_and_crowds(self):
+        dice = random.Random(27)
+        seen = collections.Counter()
+        for case in range(400):
+            text, swells, held = (close_work, crowd_work)[case % 2](dice)
+            for asked in range(6):
+                i, j = dice.sample(range(len(swells)), 2)
+                own = (i, j, asked % 3, dice.choice((-200, -1, 0, 1, 200, dice.randint(-200, 200))))
+                with self.subTest(case=case, text=bytes(text), swells=swells, held=held, own=own):
+                    answer = ask(gap, *own, text, swells, held)
+                    self.assertEqual(answer, reference.gap(*own, text, swells, held))
+                    seen[answer[0], len(answer) > 1 and (answer[1] > 0) - (answer[1] < 0)] += 1
+        for kind in ((0, -1), (0, 0), (0, 1), (-3, False)):
+            self.assertGreater(seen[kind], 30, seen)
 
     def test_work_of_close_puts_and_crowds(self):
         dice = random.Random(25)

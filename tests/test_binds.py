@@ -4,6 +4,7 @@ import itertools
 import unittest
 
 from tests.asking import WAYS, ask, to_bytes
+from tests.turning import crooked_part, turned_cells, turned_neighbours
 from woodswell.swelling import binds
 
 DAMPS = (-200, -199, -100, -2, -1, 0, 1, 2, 100, 199, 200)
@@ -92,15 +93,8 @@ class Grain(BindsCase):
         self.bound_just_at([], text, [100, 100], [RIGHT, RIGHT])
 
     def test_the_grain_is_turned_with_the_part(self):
-        for ways in WAYS:
-            axes = ["rlbfud".index(letter) // 2 for letter in ways]
-            axes.append(3 - sum(axes))
-            for own, axis in itertools.product(range(3), repeat=2):
-                corner = [10, 10, 10]
-                corner[axis] = 12
-                text = "part a 2 2 2 {}\nput a {} 10 10 10\nput a {} {} {} {}\n".format(
-                    "xyz"[own], ways, ways, *corner)
-                self.answers(int(axes[own] != axis), 1, text, [1, 1], [0, 7])
+        for axis, along, text in turned_neighbours():
+            self.answers(int(not along), 1, text, [1, 1], [0, 7])
 
 
 class WhatIsFlat(BindsCase):
@@ -203,28 +197,11 @@ class Cuts(BindsCase):
 
 
 class TurnedCuts(BindsCase):
-    STEPS = {"r": (1, 0, 0), "l": (-1, 0, 0), "b": (0, 1, 0), "f": (0, -1, 0), "u": (0, 0, 1), "d": (0, 0, -1)}
-    LENGTHS = (2, 3, 4)
-    # Four cells that no turning brings to their mirror image.
-    CELLS = ((0, 0, 0), (1, 0, 0), (0, 2, 0), (0, 0, 3))
-
-    def part(self):
-        block = itertools.product(*(range(length) for length in self.LENGTHS))
-        cuts = "".join("cut {} {} {} 1 1 1\n".format(*cell) for cell in block if cell not in self.CELLS)
-        return "part a 2 3 4 z\n" + cuts + "part c 1 1 1 x\n"
-
-    def turned(self, ways):
-        a, b = self.STEPS[ways[0]], self.STEPS[ways[1]]
-        c = (a[1] * b[2] - a[2] * b[1], a[2] * b[0] - a[0] * b[2], a[0] * b[1] - a[1] * b[0])
-        low = [sum(min(0, way[k] * (self.LENGTHS[own] - 1)) for own, way in enumerate((a, b, c))) for k in range(3)]
-        return {tuple(sum(way[k] * cell[own] for own, way in enumerate((a, b, c))) - low[k] for k in range(3))
-                for cell in self.CELLS}
-
     def test_each_cell_is_where_it_is_turned_to(self):
-        part = self.part()
+        part = crooked_part("a", "z") + "part c 1 1 1 x\n"
         shapes = set()
         for ways in WAYS:
-            cells = self.turned(ways)
+            cells = turned_cells(ways)
             shapes.add(frozenset(cells))
             for x, y, z in itertools.product(range(5), repeat=3):
                 if (x, y, z) in cells:

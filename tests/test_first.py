@@ -139,7 +139,8 @@ class ComingFreeAgain(FirstCase):
 
     def test_bound_for_a_short_while(self):
         # On x the one comes to the other, a cell away, on y the other leaves it: each at 1 / (16 s) or 1 / (15 s).
-        text = "part a 16 1 1 y\ncut 0 0 0 15 1 1\npart b 1 16 1 x\ncut 0 0 0 1 15 1\nput a rb 10 20 0\nput b rb {} 5 0\n"
+        text = ("part a 16 1 1 y\ncut 0 0 0 15 1 1\npart b 1 16 1 x\ncut 0 0 0 1 15 1\n"
+                "put a rb 10 20 0\nput b rb {} 5 0\n")
         lasting = set()
         for one in range(30, 101, 3):
             for other in list(range(20, 101, 4)) + [one, one + 5]:
@@ -159,7 +160,7 @@ class AgainstBinds(FirstCase):
     def test_what_is_told_first_is_first(self):
         dice = random.Random(22)
         seen = {DAMP: [], DRY: []}
-        for case in range(200):
+        for case in range(100):
             text, swells, held = close_work(dice)
             for dry, way in ((DAMP, 1), (DRY, -1)):
                 bound = [way * k for k in range(1, 201) if binds(0, 1, way * k, text, swells, held) == [1]]
@@ -170,8 +171,8 @@ class AgainstBinds(FirstCase):
                 seen[dry].append(bound[0] if bound else NONE)
         for dry, way in ((DAMP, 1), (DRY, -1)):
             self.assertGreater(seen[dry].count(NONE), 20)
-            self.assertGreater(seen[dry].count(way), 20)
-            self.assertGreater(len(set(seen[dry]) - {NONE, way}), 10)
+            self.assertGreater(seen[dry].count(way), 10)
+            self.assertGreater(len(set(seen[dry]) - {NONE, way}), 5)
 
 
 class ManyPuts(FirstCase):

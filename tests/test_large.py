@@ -4,7 +4,7 @@ import time
 import unittest
 
 from tests.asking import to_bytes
-from woodswell.swelling import binds, first, work
+from woodswell.swelling import binds, first, gap, work
 
 FEW_SECONDS = 4
 
@@ -86,6 +86,20 @@ class Large(unittest.TestCase):
         # Late ones are found as soon.
         self.answers([0, 143, 0, 6], work, 0, posts, [100] * 32, [k % 8 for k in range(32)])
         self.answers([0, -112, 2, 8], work, 1, posts, [100] * 32, [k % 8 for k in range(32)])
+
+    def test_gap(self):
+        combs, blocks, posts = many_combs(), many_blocks(), many_posts(1)
+        for m in (-200, 0, 200):
+            # Layer lies upon layer, and along the grain nothing moves.
+            for i, j in ((0, 1), (31, 30)):
+                self.answers([0, 0], gap, i, j, 2, m, combs, [100] * 32, [0, 7] * 16)
+            # The first comes to the second by 16 cells' growth.
+            self.answers([0, -1600 * m], gap, 0, 1, 0, m, blocks, [100] * 32, [0] * 32)
+            self.answers([-3], gap, 0, 31, 0, m, blocks, [100] * 32, [0] * 32)
+            # Of two posts beside one another the first has its grain along x, the second goes from 20 on.
+            self.answers([0, 0], gap, 0, 1, 0, m, posts, [0] * 32, [0] * 32)
+            self.answers([-3], gap, 0, 7, 0, m, posts, [100] * 32, [0] * 32)
+            self.answers([0, 100 * m], gap, 0, 1, 0, m, posts, [100] * 32, [0] * 32)
 
 
 if __name__ == "__main__":

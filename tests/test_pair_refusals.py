@@ -3,7 +3,7 @@
 import unittest
 
 from tests.asking import ask, to_bytes
-from woodswell.swelling import binds, first
+from woodswell.swelling import binds, first, gap
 
 MOST = 4294967295
 CUBE = "part c 1 1 1 x\n"
@@ -12,10 +12,16 @@ THREE = to_bytes(CUBE + "put c rb 0 0 0\nput c rb 0 1 0\nput c rb 0 0 9\n")
 OVERLAP = to_bytes(CUBE + "put c rb 0 0 0\nput c rb 5 0 0\nput c rb 5 0 0\n")
 FAULT = OVERLAP + to_bytes("put c rb 49 0 0\n")
 
-# Of each call: what its own number may be and what it may not be.
+RIGHT_DAMPS = (-200, -1, 0, 1, 200)
+WRONG_DAMPS = (-201, 201, -202, 65536, -2147483648, 2147483647)
+
+# Of each call: what its own numbers may be and what they may not be.
 CALLS = (
-    (binds, (-200, -1, 0, 1, 200), (-201, 201, -202, 65536, -2147483648, 2147483647)),
-    (first, (0, 1), (2, 3, 65536, MOST)),
+    (binds, [(m,) for m in RIGHT_DAMPS], [(m,) for m in WRONG_DAMPS]),
+    (first, [(0,), (1,)], [(2,), (3,), (65536,), (MOST,)]),
+    (gap, [(k % 3, m) for k, m in enumerate(RIGHT_DAMPS)],
+     [(k % 3, m) for k, m in enumerate(WRONG_DAMPS)]
+     + [(3, 0), (4, 200), (65536, 0), (MOST, 0), (3, 201), (MOST, -201)]),
 )
 NO_PAIRS = ((2, 0), (0, 2), (2, 2), (1, 3), (MOST, 0), (0, MOST), (MOST, MOST), (MOST, MOST - 1))
 
@@ -23,11 +29,11 @@ NO_PAIRS = ((2, 0), (0, 2), (2, 2), (1, 3), (MOST, 0), (0, MOST), (MOST, MOST), 
 class PairRefusals(unittest.TestCase):
     def answers(self, answer, function, i, j, own, text, swells, held):
         with self.subTest(function=function, i=i, j=j, own=own, swells=swells, held=held):
-            self.assertEqual(ask(function, i, j, own, text, swells, held), answer)
+            self.assertEqual(ask(function, i, j, *own, text, swells, held), answer)
 
     def is_answered(self, function, i, j, own, text, swells, held):
         with self.subTest(function=function, i=i, j=j, own=own, swells=swells, held=held):
-            self.assertIn(ask(function, i, j, own, text, swells, held)[0], (0, 1, -3))
+            self.assertIn(ask(function, i, j, *own, text, swells, held)[0], (0, 1, -3))
 
     def test_no_such_put(self):
         for function, right, wrong in CALLS:

@@ -3,6 +3,7 @@
 import unittest
 
 from tests.asking import WAYS, ask, to_bytes
+from tests.turning import own_axes
 from woodswell.swelling import plane
 
 UNIT = 100000
@@ -10,16 +11,6 @@ MOST = 4294967295
 CORNER = (5, 7, 9)
 LENGTHS = (2, 3, 4)
 DAMPS = (-200, -199, -1, 0, 1, 7, 200)
-
-
-def axis_of(letter):
-    return "rlbfud".index(letter) // 2
-
-
-def own_axes(ways):
-    """The grid's axes along which the part's x, y and z lie; the third is the one that's left."""
-    right, back = axis_of(ways[0]), axis_of(ways[1])
-    return (right, back, 3 - right - back)
 
 
 def one_put(ways, grain):

@@ -2,6 +2,7 @@
 
 from tests import reference
 from tests.asking import WAYS, to_bytes
+from tests.turning import own_axes
 
 ODD_NUMBERS = ["0", "1", "16", "17", "48", "49", "00", "01", "", "x", "99999999999999999999", "-1"]
 
@@ -106,8 +107,7 @@ def hole_and_plug(dice, sides, start, hole, room, before):
     plug = [hole[axis] - room[axis] for axis in range(3)]
     place = [corner[axis] + start[axis] + before[axis] for axis in range(3)]
     ways = dice.choice(WAYS)
-    axes = ["rlbfud".index(letter) // 2 for letter in ways]
-    axes.append(3 - sum(axes))
+    axes = own_axes(ways)
     return ["part a {} {} {} {}".format(*sides, dice.choice("xyz")),
             "cut {} {} {} {} {} {}".format(*start, *hole),
             "part b {} {} {} {}".format(*(plug[axis] for axis in axes), dice.choice("xyz")),
@@ -161,6 +161,11 @@ def rooms_work(dice):
     return to_bytes(text), [swell for swell, corner in numbers], [corner for swell, corner in numbers]
 
 
+def lies_free(lines, puts):
+    """Whether puts overlap nowhere."""
+    return reference.judge(to_bytes("".join(line + "\n" for line in lines)), [0] * puts, [0] * puts) == [0]
+
+
 def crowd_work(dice):
     """Several small parts with cuts, put in a small room; they overlap nowhere, and many touch one another."""
     names = [f"p{k}" for k in range(dice.randint(1, 4))]
@@ -169,9 +174,63 @@ def crowd_work(dice):
         lines += some_part(dice, name, [dice.choice((1, 2, dice.randint(1, 7))) for own in range(3)])
     puts = 0
     for attempt in range(dice.randint(4, 16)):
-        more = lines + [some_put(dice, dice.choice(names), [dice.randint(20, 27) for axis in range(3)])]
-        if reference.judge(to_bytes("".join(line + "\n" for line in more)), [0] * (puts + 1), [0] * (puts + 1)) == [0]:
+        more = lines + [some_put(dice, dice.choice(names), [dice.randint(20, 25) for axis in range(3)])]
+        if lies_free(more, puts + 1):
             lines = more
             puts += 1
     swells = [dice.choice((0, 0, 1, dice.randint(0, 100))) for put in range(puts)]
     return to_bytes("".join(line + "\n" for line in lines)), swells, [dice.randrange(8) for put in range(puts)]
+
+
+def corner_low(place, corner, lengths):
+    """The lowest corner of a block of which the corner lies at the place."""
+    return [place[axis] - (lengths[axis] if corner >> axis & 1 else 0) for axis in range(3)]
+
+
+def from_corner(corner, lengths, start, sides):
+    """A cut of a block: start tells how far from its corner the cut begins on each axis."""
+    first = [lengths[axis] - start[axis] - sides[axis] if corner >> axis & 1 else start[axis] for axis in range(3)]
+    return "cut {} {} {} {} {} {}".format(*first, *sides)
+
+
+def nested_pair(dice, number, place, corner, grain):
+    """A block with a hole, and what fills it, of a block with its corner at the same place: their lines and puts."""
+    sides = [dice.randint(2, 10) for axis in range(3)]
+    start = [dice.randrange(side) for side in sides]
+    hole = [dice.randint(1, sides[axis] - start[axis]) for axis in range(3)]
+    reach = [start[axis] + hole[axis] for axis in range(3)]
+    lines = ["part a{} {} {} {} {}".format(number, *sides, "xyz"[grain]), from_corner(corner, sides, start, hole),
+             "part b{} {} {} {} {}".format(number, *reach, "xyz"[grain])]
+    for axis in range(3):
+        if start[axis] > 0:
+            layer = [start[k] if k == axis else reach[k] for k in range(3)]
+            lines.append(from_corner(corner, reach, (0, 0, 0), layer))
+    return lines, ["put {}{} rb {} {} {}".format(name, number, *corner_low(place, corner, lengths))
+                   for name, lengths in (("a", sides), ("b", reach))]
+
+
+def turned_one(dice, number, place, corner, grain):
+    """A part with cuts, turned some way, its corner at the place: its lines and its put."""
+    ways = dice.choice(WAYS)
+    axes = own_axes(ways)
+    lengths = [dice.choice((1, 2, 3, dice.randint(1, 9))) for own in range(3)]
+    lines = some_part(dice, f"t{number}", lengths)
+    lines[0] = lines[0][:-1] + "xyz"[axes.index(grain)]
+    low = corner_low(place, corner, [lengths[axes.index(axis)] for axis in range(3)])
+    return lines, ["put t{} {} {} {} {}".format(number, ways, *low)]
+
+
+def one_place_work(dice):
+    """Puts that are all held in one place and swell alike, their grain along one axis; some lie in others' cuts."""
+    place = [dice.randint(16, 32) for axis in range(3)]
+    grain = dice.randrange(3)
+    lines, puts, held = [], [], []
+    for number in range(dice.randint(4, 10)):
+        corner = dice.randrange(8)
+        more, more_puts = dice.choice((nested_pair, turned_one))(dice, number, place, corner, grain)
+        if lies_free(lines + more + puts + more_puts, len(puts + more_puts)):
+            lines += more
+            puts += more_puts
+            held += [corner] * len(more_puts)
+    swell = dice.choice((1, 100, dice.randint(0, 100)))
+    return to_bytes("".join(line + "\n" for line in lines + puts)), [swell] * len(puts), held

@@ -1,4 +1,4 @@
-"""Where puts lie in the grid at dampness 0: turned boxes, rows of cells, overlap."""
+"""Where puts lie in the grid at dampness 0: turned boxes, rows of cells, overlap, cells beside one another."""
 
 from woodswell.lines import WAY_LETTERS
 
@@ -70,6 +70,32 @@ def cell_rows(put):
         for place in row_places(box):
             rows[place] = rows[place] & ~bits
     return rows
+
+
+def moved_up(rows, axis):
+    moved = {}
+    for place in rows:
+        if axis == 0:
+            moved[place] = rows[place] << 1
+        elif axis == 1:
+            moved[(place[0] + 1, place[1])] = rows[place]
+        else:
+            moved[(place[0], place[1] + 1)] = rows[place]
+    return moved
+
+
+# The planes of an axis at which a cell of the lower ends and one of the upper begins, beside it. Moved up by one, a
+# cell lies where the cell beside it lies.
+def facing_planes(lower, upper, axis):
+    moved = moved_up(lower, axis)
+    planes = 0
+    for place in moved:
+        both = moved[place] & upper.get(place, 0)
+        if axis == 0:
+            planes = planes | both
+        elif both != 0:
+            planes = planes | (1 << place[axis - 1])
+    return [t for t in range(planes.bit_length()) if ((planes >> t) & 1) == 1]
 
 
 def rows_meet(some, others):

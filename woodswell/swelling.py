@@ -2,6 +2,7 @@
 
 from woodswell.binding import Piece, first_bound, first_pair, may_bind
 from woodswell.damp import MOST_DAMP, plane_at
+from woodswell.gaping import gaps_between
 from woodswell.grid import first_overlap
 from woodswell.worktext import read_work
 
@@ -116,3 +117,15 @@ def work(dry, text, swells, held):
     if len(told) == 0:
         return [-3]
     return [0] + told
+
+
+def gap(i, j, axis, m, text, swells, held):
+    case = read_case(text, swells, held, axis <= MOST_AXIS and is_dampness(m))
+    refusal = pair_refusal(case, i, j)
+    if len(refusal) > 0:
+        return refusal
+    pieces = pieces_of(case, [i, j], swells, held)
+    gaps = gaps_between(pieces[0], pieces[1], axis, m)
+    if len(gaps) == 0:
+        return [-3]
+    return [0, max(gaps)]
